@@ -5,6 +5,7 @@ import unittest
 
 import grammar
 import makers
+from refusals import refusal
 
 from loancheck.errors import BadText
 from loancheck.reading import parse_program, parse_text
@@ -16,14 +17,6 @@ EVERY_PLACE = (
     "fn f ( a : own ) { if { read a ; } if { write a ; } else { drop a ; } loop { break ; continue ; } } fn g ( ) { }",
     "fn f ( ) -> own { loop { if { if { } } else { loop { } } } } fn g ( ) -> ref { }",
 )
-
-
-def refusal(text):
-    try:
-        parse_text(text)
-    except BadText as bad:
-        return (bad.token, bad.reason)
-    return None
 
 
 class UnexpectedTokens(unittest.TestCase):

@@ -4,18 +4,9 @@ import string
 import unittest
 
 from grammar import WORDS
+from refusals import refusal
 
-from loancheck.errors import BadText
 from loancheck.reading import parse_text
-
-
-def refusal(text):
-    """The pair (token, reason) with which a text is refused, or None."""
-    try:
-        parse_text(text)
-    except BadText as bad:
-        return (bad.token, bad.reason)
-    return None
 
 
 class Spaces(unittest.TestCase):
@@ -71,7 +62,7 @@ class Words(unittest.TestCase):
     def test_a_word_is_no_name(self):
         for word in WORDS:
             self.assertEqual(refusal(f"fn {word}() {{ }}"), (2, "unexpected token"), word)
-            self.assertEqual(refusal(f"fn f({word}: own) {{ }}"), (4, "unexpected token") , word)
+            self.assertEqual(refusal(f"fn f({word}: own) {{ }}"), (4, "unexpected token"), word)
             self.assertEqual(refusal(f"fn f() {{ let {word} = new; }}"), (7, "unexpected token"), word)
             self.assertEqual(refusal(f"fn f() {{ drop {word}; }}"), (7, "unexpected token"), word)
 
