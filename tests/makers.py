@@ -111,21 +111,33 @@ HEADS = (
     ("pick", (("a", "mut"), ("b", "mut"), ("c", "own")), "mut"),
     ("quiet", (("a", "mut"),), None),
 )
-RESULTS = {name: result for name, parameters, result in HEADS}
+
+# Those in which small_program puts them: most hand references on, by several ways.
+SMALL_HEADS = (
+    ("one", (("a", "ref"), ("b", "ref")), "ref"),
+    ("two", (("a", "mut"), ("b", "own")), "mut"),
+    ("both", (("a", "mut"), ("b", "mut"), ("c", "ref")), "mut"),
+    ("keep", (("a", "own"),), "own"),
+    ("main", (), None),
+)
 
 
 class StrictMaker:
     """Makes the body of a function that keeps the rules, but perhaps that of the bound of nodes."""
 
-    def __init__(self, random, head):
+    def __init__(self, random, head, heads, most, filler):
         self.random = random
         self.result = head[2]
+        self.heads = heads
+        self.results = {name: result for name, parameters, result in heads}
+        self.most = most
+        self.filler = filler
         self.scope = list(head[1])
         self.many = len(head[1])
         self.loops = 0
 
     def body(self):
-        block = list(self.block(3, 10))
+        block = list(self.block(3, self.most))
         if self.result is not None and (not block or block[-1][0] != "return"):
             return tuple(block + self.last())
         return tuple(block)
@@ -156,7 +168,7 @@ class StrictMaker:
             if expression is not None:
                 return ("set", name, expression)
         if word == "call":
-            return self.call([name for name, parameters, result in HEADS]) or ("call", "main", ())
+            return self.call(list(self.results)) or self.filler
         if word in ("read", "write", "drop"):
             return self.use(word)
         if word == "if" and depth:
@@ -170,7 +182,7 @@ class StrictMaker:
             return (word,)
         if word == "return":
             return self.leave()
-        return ("call", "main", ())
+        return self.filler
 
     def let(self):
         expressions = [self.expression(kind) for kind in KINDS]
@@ -184,17 +196,17 @@ class StrictMaker:
     def use(self, word):
         fit = {"read": KINDS, "write": ("own", "mut"), "drop": ("own",)}[word]
         found = [name for name, kind in self.scope if kind in fit]
-        return (word, self.random.choice(found)) if found else ("call", "main", ())
+        return (word, self.random.choice(found)) if found else self.filler
 
     def leave(self):
         if self.result is None:
             return ("return", None)
         found = [name for name, kind in self.scope if kind == self.result]
-        return ("return", self.random.choice(found)) if found else ("call", "main", ())
+        return ("return", self.random.choice(found)) if found else self.filler
 
     def expression(self, kind):
         """An expression of a kind, or None."""
-        found = [self.argument(kind), self.call([name for name in RESULTS if RESULTS[name] == kind])]
+        found = [self.argument(kind), self.call([name for name in self.results if self.results[name] == kind])]
         if kind == "own":
             found.append(("new",))
         found = [expression for expression in found if expression is not None]
@@ -210,11 +222,56 @@ class StrictMaker:
         if not names:
             return None
         name = self.random.choice(names)
-        parameters = [parameters for other, parameters, result in HEADS if other == name][0]
+        parameters = [parameters for other, parameters, result in self.heads if other == name][0]
         arguments = tuple(self.argument(kind) for parameter, kind in parameters)
         return None if None in arguments else ("call", name, arguments)
 
 
 def strict_program(random):
     """A program that keeps the rules, but perhaps that of the bound of nodes."""
-    return tuple(head + (StrictMaker(random, head).body(),) for head in HEADS)
+    return tuple(head + (StrictMaker(random, head, HEADS, 10, ("call", "main", ())).body(),) for head in HEADS)
+
+
+def small_program(random):
+    """A program of small functions that keeps the rules, its functions in any order."""
+    heads = list(SMALL_HEADS)
+    random.shuffle(heads)
+    return tuple(head + (StrictMaker(random, head, heads, 8, ("if", (), None)).body(),) for head in heads)
+
+
+FLOW_PARAMETERS = (("a", "ref"), ("b", "ref"), ("c", "ref"))
+
+
+def flow_program(random):
+    """Three functions that hand references on to one another and back, by all kinds of ways."""
+    return tuple((name, FLOW_PARAMETERS, "ref", flow_body(random)) for name in random.sample(("f", "g", "h"), 3))
+
+
+def flow_body(random):
+    names = ["a", "b", "c", "x"]
+    body = [("let", "o", ("new",)), ("let", "x", random.choice((("ref", "o"), flow_name(random, "abc"))))]
+    for _ in range(random.randrange(1, 6)):
+        body.append(flow_statement(random, names))
+    return tuple(body + [("return", random.choice(names))])
+
+
+def flow_name(random, names):
+    return ("name", random.choice(names))
+
+
+def flow_statement(random, names):
+    choice = random.randrange(8)
+    if choice < 2:
+        return ("set", random.choice(names), flow_name(random, names))
+    if choice < 4:
+        return ("if", (("return", random.choice(names)),), None)
+    if choice == 4:
+        return ("loop", (("if", (("break",),), None), flow_call(random, names)))
+    if choice == 5:
+        return ("if", (flow_call(random, names),), (("set", random.choice(names), ("ref", "o")),))
+    return ("if", (flow_call(random, names),), None) if random.randrange(3) else flow_call(random, names)
+
+
+def flow_call(random, names):
+    arguments = tuple(flow_name(random, names) for _ in range(3))
+    return ("set", random.choice(names), ("call", random.choice("fgh"), arguments))

@@ -1,0 +1,39 @@
+"""The interface: each function and class is defined in the file under which it is listed, with its arguments."""
+
+import importlib
+import inspect
+import unittest
+
+INTERFACE = {
+    "errors": {
+        "BadText": ("token", "reason"), "BadRule": ("function", "statement", "reason"), "BadRun": ("step",),
+        "BadPaper": ("node",), "BadEdit": ("reason",), "BadJournal": ("place",), "BadArgument": ("reason",),
+    },
+    "reading": {"parse_text": ("text",), "parse_program": ("text",)},
+    "writing": {"program_text": ("program",), "function_text": ("function",)},
+    "rules": {"rule_fault": ("program",), "variables": ("program", "function")},
+    "graphs": {"graph": ("program", "function"), "places": ("program", "function")},
+    "states": {
+        "first_state": ("program", "function"), "after": ("program", "function", "state", "node", "outcome"),
+        "used_at": ("program", "function", "node"), "accessed_at": ("program", "function", "node"),
+        "cleared_at": ("program", "function", "node"), "put_at": ("program", "function", "node"),
+    },
+    "runs": {
+        "replay": ("program", "function", "outcomes", "run"), "all_runs": ("program", "function", "outcomes", "most"),
+    },
+    "summaries": {"outcomes": ("program",), "summary": ("program", "function")},
+}
+
+
+class Interface(unittest.TestCase):
+    def test_names_and_arguments(self):
+        for file, names in INTERFACE.items():
+            module = importlib.import_module("loancheck." + file)
+            for name, arguments in names.items():
+                found = getattr(module, name)
+                self.assertEqual(found.__module__, "loancheck." + file, name)
+                self.assertEqual(tuple(inspect.signature(found).parameters), arguments, name)
+
+
+if __name__ == "__main__":
+    unittest.main()
