@@ -1,6 +1,6 @@
 """What operations do to places and loans (s1), and what they use and access (s3, s4)."""
 
-LOAN_WORDS = ("param", "node", "none")
+LOAN_WORDS = ("param", "node")
 
 
 def put_by(operation):
@@ -117,8 +117,8 @@ def pairs_in_order(parts, pairs):
 
 
 def loan_rank(loan):
-    """What stands for the place of a loan in the order of all loans: param, node, none."""
-    return (LOAN_WORDS.index(loan[0]), *loan[1:])
+    """What stands for the place of a loan in the order of all loans (c8)."""
+    return (LOAN_WORDS.index(loan[0]), loan[1])
 
 
 def is_against(access, loan):

@@ -13,7 +13,7 @@ def replay(program, function, outcomes, run):
     parts = Parts(program, function)
     refuse_wrong_steps(parts, outcomes, run)
     states = states_ahead(parts, first_state(program, function), run)
-    complete = run != () and parts.operations[run[-1][0]] == ("exit",)
+    complete = len(run) > 0 and parts.operations[run[-1][0]] == ("exit",)
     made = len([node for node, outcome in run if parts.operations[node][0] == "new"])
     got, handed = passed_values(program, parts, run)
     return (complete, problems_of(parts, states, run), made, got, dropped_values(parts, states, run), handed)

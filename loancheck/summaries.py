@@ -57,12 +57,12 @@ def first_seeds(parts):
 def detached_seeds(parts, effects, reached):
     """The places that hold no parameter behind a node, whatever they held ahead of it."""
     found = []
-    for node, follower_nodes in enumerate(parts.leads):
+    for node, leads in enumerate(parts.leads):
         if reached[node]:
             for target, origin, emptied, _ in effects[node]:
                 places = list(emptied)
                 if target is not None and origin is None:
                     places.append(target)
-                for follower in follower_nodes:
+                for follower in leads:
                     found.extend([(follower, (place, NO_PARAMETER)) for place in places])
     return found

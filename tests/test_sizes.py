@@ -92,6 +92,19 @@ class Sizes(unittest.TestCase):
             self.assertTrue(replay(program, 4, known, run)[0])
         self.assertEqual(all_runs(program, 4, known, 4), [])
 
+    def test_ways_that_are_too_long_are_not_gone(self):
+        # There are four outcomes at each of the calls, but no run has an end within so many steps.
+        calls = "g(a);" * 14
+        program = parse_program("fn f(a: ref) { " + calls + " } fn g(a: ref) -> ref { return a; }")
+        self.assertEqual(len(graph(program, 0)), 44)
+        self.assertEqual(all_runs(program, 0, {"g": ALL}, 43), [])
+        self.assertEqual(len(all_runs(program, 0, {"g": ("none",)}, 44)), 1)
+
+    def test_ways_to_a_call_that_never_comes_back_are_not_gone(self):
+        ifs = "if { read a; }" * 12
+        program = parse_program("fn f(a: own) { loop { " + ifs + " if { g(); break; } } } fn g() { loop { } }")
+        self.assertEqual(all_runs(program, 0, outcomes(program), 400), [])
+
     def test_each_node(self):
         program = parse_program(great_program())
         for node in range(60):
