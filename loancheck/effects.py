@@ -2,6 +2,9 @@
 
 LOAN_WORDS = ("param", "node")
 
+# It stands, among the loans, for holding no parameter.
+NO_PARAMETER = ("none",)
+
 
 def put_by(operation):
     """The place into which an operation puts something, or None."""
@@ -108,6 +111,25 @@ def pairs_behind(effect, pair):
     return found
 
 
+def values_behind(effect, fact):
+    """The pairs (place, whether it has a value) that are so behind a node because one is so ahead of it."""
+    target, _, emptied, _ = effect
+    place = fact[0]
+    if place == target:
+        return [(place, True)]
+    if place in emptied:
+        return [(place, False)]
+    return [fact]
+
+
+def detached_by(effect):
+    """The places that hold no parameter behind a node, whatever they held ahead of it."""
+    target, origin, emptied, _ = effect
+    if target is None or origin is not None:
+        return emptied
+    return (target, *emptied)
+
+
 def pairs_in_order(parts, pairs):
     """Pairs (place, loan), each once, in the order of the places, then of the loans."""
     found = {}
@@ -117,7 +139,9 @@ def pairs_in_order(parts, pairs):
 
 
 def loan_rank(loan):
-    """What stands for the place of a loan in the order of all loans (c8)."""
+    """What stands for the place of a loan in the order of all loans (c8), ("none",) behind them (p4)."""
+    if loan == NO_PARAMETER:
+        return (len(LOAN_WORDS), 0)
     return (LOAN_WORDS.index(loan[0]), loan[1])
 
 
@@ -126,3 +150,18 @@ def is_against(access, loan):
     if access is None or access[0] != loan[0]:
         return False
     return access[1] == "write" or loan[1] == "mut"
+
+
+def conflicting_makers(parts, operation, holds, later):
+    """The nodes that made the loans with which an operation is in conflict (s5).
+
+    Ahead of it there are the pairs (place, loan) that holds tells; later are the places used later behind it.
+    """
+    access = accessed_by(operation, parts.kinds)
+    target = put_by(operation)
+    found = []
+    for place, loan in holds:
+        if loan[0] == "node" and loan[1] in parts.borrows and place != target and place in later:
+            if is_against(access, parts.borrows[loan[1]]):
+                found.append(loan[1])
+    return found

@@ -1,6 +1,6 @@
 """How runs, and single facts in them, go along the nodes of a function (s2, a2)."""
 
-from loancheck.effects import effect_at, pairs_behind
+from loancheck.effects import NO_PARAMETER, detached_by, effect_at, touched_by, used_by
 
 
 def outcomes_at(parts, outcomes, node):
@@ -33,18 +33,77 @@ def effects_of(parts, outcomes):
     return found
 
 
-def spread_pairs(parts, effects, seeds):
-    """For each node the pairs (place, loan) ahead of it, in some run, that come from the seeds, as keys of a dict.
+def spread(parts, effects, seeds, behind):
+    """For each node the facts that are so ahead of it, in some run, and come from the seeds, as keys of a dict.
 
-    A seed is (node, pair): a pair that is there ahead of a node.
+    A seed is (node, fact): a fact that is so ahead of a node. The function behind tells, for an effect and a fact
+    ahead of it, the facts that are so behind it.
     """
     found = [{} for _ in parts.operations]
     waiting = list(seeds)
     while waiting:
-        node, pair = waiting.pop()
-        if pair not in found[node]:
-            found[node][pair] = True
+        node, fact = waiting.pop()
+        if fact not in found[node]:
+            found[node][fact] = True
             for effect in effects[node]:
-                for other in pairs_behind(effect, pair):
+                for other in behind(effect, fact):
                     waiting.extend([(follower, other) for follower in parts.leads[node]])
+    return found
+
+
+def value_seeds(parts):
+    """The pairs (place, whether it has a value) at the beginning."""
+    names = [name for name, kind in parts.parameters]
+    return [(0, (place, place in names)) for place in parts.places]
+
+
+def first_seeds(parts):
+    """What places hold at the beginning: a parameter, or none."""
+    loans = {place: NO_PARAMETER for place in parts.places}
+    for number, (name, kind) in enumerate(parts.parameters):
+        if kind != "own":
+            loans[name] = ("param", number)
+    return [(0, (place, loan)) for place, loan in loans.items()]
+
+
+def detached_seeds(parts, effects, reached):
+    """The places that hold no parameter behind a node, whatever they held ahead of it."""
+    found = []
+    for node, leads in enumerate(parts.leads):
+        if reached[node]:
+            for effect in effects[node]:
+                places = detached_by(effect)
+                for follower in leads:
+                    found.extend([(follower, (place, NO_PARAMETER)) for place in places])
+    return found
+
+
+def loan_seeds(parts, reached):
+    """The loans that nodes make, each held by the place into which its node puts the reference."""
+    found = []
+    for node in parts.borrows:
+        if reached[node]:
+            pair = (parts.operations[node][1], ("node", node))
+            found.extend([(follower, pair) for follower in parts.leads[node]])
+    return found
+
+
+def later_uses(parts, effects, reached):
+    """For each node the places that are used later, from it on, in some run (s4), as keys of a dict."""
+    sources = [[] for _ in parts.operations]
+    found = [{} for _ in parts.operations]
+    waiting = []
+    for node, operation in enumerate(parts.operations):
+        if reached[node]:
+            waiting.extend([(node, place) for place in used_by(operation, parts.result)])
+            if effects[node]:
+                for follower in parts.leads[node]:
+                    sources[follower].append(node)
+    while waiting:
+        node, place = waiting.pop()
+        if place not in found[node]:
+            found[node][place] = True
+            for source in sources[node]:
+                if place not in touched_by(parts.operations[source]):
+                    waiting.append((source, place))
     return found

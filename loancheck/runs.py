@@ -1,6 +1,6 @@
 """Runs of functions: what they commit and do with values, and which there are (s2, s4 to s6)."""
 
-from loancheck.effects import accessed_by, is_against, put_by, touched_by, used_by
+from loancheck.effects import conflicting_makers, touched_by, used_by
 from loancheck.errors import BadRun
 from loancheck.flows import outcomes_at
 from loancheck.kinds import result_kinds
@@ -85,21 +85,6 @@ def problems_of(parts, states, run):
         for maker in conflicting_makers(parts, operation, state[1], later):
             found[(node, maker)] = (parts.name, node, "conflict", parts.borrows[maker][0], maker)
     return [found[key] for key in sorted(found)]
-
-
-def conflicting_makers(parts, operation, holds, later):
-    """The nodes that made the loans with which an operation is in conflict.
-
-    Ahead of it there are the pairs (place, loan) that holds tells; later are the places used later behind it.
-    """
-    access = accessed_by(operation, parts.kinds)
-    target = put_by(operation)
-    found = []
-    for place, loan in holds:
-        if loan[0] == "node" and place != target and place in later:
-            if is_against(access, parts.borrows[loan[1]]):
-                found.append(loan[1])
-    return found
 
 
 def passed_values(program, parts, run):

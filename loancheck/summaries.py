@@ -1,10 +1,8 @@
 """The outcomes and summaries of functions (m1, m2)."""
 
-from loancheck.flows import effects_of, reached_nodes, spread_pairs
+from loancheck.effects import NO_PARAMETER, pairs_behind
+from loancheck.flows import detached_seeds, effects_of, first_seeds, reached_nodes, spread
 from loancheck.parts import Parts
-
-# It stands, among the loans, for holding no parameter.
-NO_PARAMETER = ("none",)
 
 
 def outcomes(program):
@@ -34,7 +32,7 @@ def outcomes_by(parts, known):
     """The outcomes of a function if the functions that it calls have those that are known."""
     effects = effects_of(parts, known)
     seeds = first_seeds(parts) + detached_seeds(parts, effects, reached_nodes(parts, known))
-    ahead = spread_pairs(parts, effects, seeds)
+    ahead = spread(parts, effects, seeds, pairs_behind)
     numbers = []
     others = ()
     for node, operation in enumerate(parts.operations):
@@ -43,26 +41,3 @@ def outcomes_by(parts, known):
             if ("#r", NO_PARAMETER) in ahead[node]:
                 others = ("none",)
     return (*sorted(set(numbers)), *others)
-
-
-def first_seeds(parts):
-    """What places hold at the beginning: a parameter, or none."""
-    loans = {place: NO_PARAMETER for place in parts.places}
-    for number, (name, kind) in enumerate(parts.parameters):
-        if kind != "own":
-            loans[name] = ("param", number)
-    return [(0, (place, loan)) for place, loan in loans.items()]
-
-
-def detached_seeds(parts, effects, reached):
-    """The places that hold no parameter behind a node, whatever they held ahead of it."""
-    found = []
-    for node, leads in enumerate(parts.leads):
-        if reached[node]:
-            for target, origin, emptied, _ in effects[node]:
-                places = list(emptied)
-                if target is not None and origin is None:
-                    places.append(target)
-                for follower in leads:
-                    found.extend([(follower, (place, NO_PARAMETER)) for place in places])
-    return found

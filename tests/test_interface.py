@@ -22,6 +22,12 @@ INTERFACE = {
         "replay": ("program", "function", "outcomes", "run"), "all_runs": ("program", "function", "outcomes", "most"),
     },
     "summaries": {"outcomes": ("program",), "summary": ("program", "function")},
+    "facts": {"facts": ("program", "function")},
+    "check": {
+        "check": ("program",), "region": ("program", "function", "node"), "drops": ("program", "function"),
+    },
+    "shortest": {"shortest": ("program", "problem")},
+    "papers": {"make_paper": ("program",), "check_paper": ("program", "paper")},
 }
 
 

@@ -43,7 +43,7 @@ class Subset(unittest.TestCase):
 
     def test_the_package_has_its_files(self):
         names = {path.name for path in FILES}
-        landed = "errors reading writing rules graphs states runs summaries".split()
+        landed = "errors reading writing rules graphs states runs summaries facts check shortest papers".split()
         self.assertTrue({"__init__.py"} | {name + ".py" for name in landed} <= names)
 
     def test_sizes(self):
@@ -62,6 +62,7 @@ class Subset(unittest.TestCase):
             self.assertTrue(node.module.startswith("loancheck."), (name, node.module))
             target = self.trees[node.module.split(".")[1] + ".py"]
             defined = {part.name for part in target.body if isinstance(part, (ast.FunctionDef, ast.ClassDef))}
+            defined |= {part.targets[0].id for part in target.body if isinstance(part, ast.Assign)}
             for alias in node.names:
                 self.assertIn(alias.name, defined, (name, alias.name))
 
@@ -86,9 +87,11 @@ class Subset(unittest.TestCase):
             self.assertEqual(node.decorator_list, [], (name, node.name))
 
     def test_builtins_and_methods(self):
+        # A function may be passed to another one, which calls its parameter.
+        passed = {"behind"}
         for name, node in self.nodes(ast.Call):
             if isinstance(node.func, ast.Name):
-                self.assertIn(node.func.id, set(BUILTINS) | self.own, (name, node.lineno))
+                self.assertIn(node.func.id, set(BUILTINS) | self.own | passed, (name, node.lineno))
             elif isinstance(node.func, ast.Attribute):
                 self.assertIn(node.func.attr, set(METHODS) | self.own, (name, node.lineno))
             else:
