@@ -11,7 +11,7 @@ def check(program):
     known = outcomes(program)
     found = []
     for number in range(len(program)):
-        found.extend(problems_told(FunctionFacts(Parts(program, number), known)))
+        found.extend(problems_by(program, number, known))
     return found
 
 
@@ -30,9 +30,10 @@ def drops(program, function):
     return drops_told(FunctionFacts(Parts(program, function), outcomes(program)))
 
 
-def problems_told(told):
-    """The problems of one function, of whose nodes the facts are told."""
-    parts = told.parts
+def problems_by(program, function, known):
+    """The problems of one function, told by its number: known tells the outcomes of all functions."""
+    parts = Parts(program, function)
+    told = FunctionFacts(parts, known)
     found = []
     for node, operation in enumerate(parts.operations):
         for place in used_by(operation, parts.result):

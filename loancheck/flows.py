@@ -45,9 +45,9 @@ def spread(parts, effects, seeds, behind):
         node, fact = waiting.pop()
         if fact not in found[node]:
             found[node][fact] = True
-            for effect in effects[node]:
-                for other in behind(effect, fact):
-                    waiting.extend([(follower, other) for follower in parts.leads[node]])
+            others = {other: True for effect in effects[node] for other in behind(effect, fact)}
+            for follower in parts.leads[node]:
+                waiting.extend([(follower, other) for other in others if other not in found[follower]])
     return found
 
 

@@ -7,17 +7,25 @@ from loancheck.parts import Parts
 
 def outcomes(program):
     """For the name of each function the tuple of its outcomes, numbers ascending, then "none"."""
-    functions = [Parts(program, number) for number in range(len(program))]
-    found = {parts.name: () for parts in functions}
+    functions = {function[0]: Parts(program, number) for number, function in enumerate(program)}
+    found = {name: () for name in functions}
     # Outcomes of one function let runs of others go on; with none at the beginning the least ones are found.
-    growing = True
-    while growing:
-        growing = False
-        for parts in functions:
-            told = outcomes_by(parts, found)
-            if told != found[parts.name]:
-                found[parts.name] = told
-                growing = True
+    waiting = list(found)
+    while waiting:
+        name = waiting.pop()
+        told = outcomes_by(functions[name], found)
+        if told != found[name]:
+            found[name] = told
+            waiting.extend([caller for caller in callers_of(functions, name) if caller not in waiting])
+    return found
+
+
+def callers_of(functions, name):
+    """The names of the functions that call one."""
+    found = []
+    for caller, parts in functions.items():
+        if any([operation[:2] == ("call", name) for operation in parts.operations]):
+            found.append(caller)
     return found
 
 

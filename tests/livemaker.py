@@ -64,3 +64,14 @@ def live_programs(seed, many, most=40):
         if rule_fault(program) is None and max(len(graph(program, number)) for number in range(len(program))) <= most:
             found.append(program)
     return found
+
+
+def mixed_programs(seed, many):
+    """Many programs of all kinds that keep the rules."""
+    chance = random.Random(seed)
+    found = []
+    while len(found) < many:
+        program = chance.choice((makers.small_program, makers.flow_program, live_program, live_program))(chance)
+        if rule_fault(program) is None:
+            found.append(program)
+    return found

@@ -28,6 +28,13 @@ INTERFACE = {
     },
     "shortest": {"shortest": ("program", "problem")},
     "papers": {"make_paper": ("program",), "check_paper": ("program", "paper")},
+    "cells": {"make_code": ("program",)},
+    "machine": {"run": ("program", "codes", "name", "choices", "most")},
+    "workspace": {"Workspace": ()},
+    "journal": {"replay_journal": ("text",)},
+}
+METHODS = {
+    "put": ("text",), "remove": ("name",), "undo": (), "program": (), "text": (), "report": ("name",), "journal": (),
 }
 
 
@@ -39,6 +46,18 @@ class Interface(unittest.TestCase):
                 found = getattr(module, name)
                 self.assertEqual(found.__module__, "loancheck." + file, name)
                 self.assertEqual(tuple(inspect.signature(found).parameters), arguments, name)
+
+    def test_methods_of_the_workspace(self):
+        """Each is defined in the class itself."""
+        found = vars(importlib.import_module("loancheck.workspace").Workspace)
+        for name, arguments in METHODS.items():
+            self.assertEqual(tuple(inspect.signature(found[name]).parameters), ("self", *arguments), name)
+
+    def test_errors(self):
+        module = importlib.import_module("loancheck.errors")
+        for name in INTERFACE["errors"]:
+            self.assertEqual(getattr(module, name).__bases__, (module.LoanError,), name)
+        self.assertEqual(module.LoanError.__bases__, (ValueError,))
 
 
 if __name__ == "__main__":

@@ -3,28 +3,15 @@
 import random
 import unittest
 
-import livemaker
-import makers
 import oracle
 import searcher
+from livemaker import mixed_programs
 from paperwork import PARTS, adding, fault, with_outcomes, with_row, without
 
 from loancheck.check import check
 from loancheck.papers import make_paper
-from loancheck.rules import rule_fault
 
-MAKERS = (makers.small_program, makers.flow_program, livemaker.live_program, livemaker.live_program)
 ANY_OUTCOMES = (0, 1, 2, "none")
-
-
-def programs(seed, many):
-    chance = random.Random(seed)
-    found = []
-    while len(found) < many:
-        program = chance.choice(MAKERS)(chance)
-        if rule_fault(program) is None:
-            found.append(program)
-    return found
 
 
 def changes(chance, program, paper):
@@ -60,7 +47,7 @@ def some_item(chance, program, function, part):
 class Made(unittest.TestCase):
     def test_it_tells_just_what_is_so_and_is_right_just_if_there_are_no_problems(self):
         seen = {True: 0, False: 0}
-        for program in programs(71, 180):
+        for program in mixed_programs(71, 180):
             paper = make_paper(program)
             self.assertEqual(paper, searcher.paper_of(program), program)
             found = check(program)
@@ -74,7 +61,7 @@ class Made(unittest.TestCase):
     def test_it_is_the_least_one(self):
         """Whatever is taken out of it, it is not right any more."""
         many = 0
-        for program in programs(72, 90):
+        for program in mixed_programs(72, 90):
             paper = make_paper(program)
             if check(program) == []:
                 for function, (outcomes, rows) in enumerate(paper):
@@ -101,7 +88,7 @@ class Changed(unittest.TestCase):
     def test_papers_that_were_changed(self):
         chance = random.Random(74)
         seen = {None: 0}
-        for program in programs(75, 120):
+        for program in mixed_programs(75, 120):
             paper = make_paper(program)
             for _ in range(10):
                 wrong = changes(chance, program, paper)
@@ -119,7 +106,7 @@ class Changed(unittest.TestCase):
         """The paper that is made is refused, however it is changed."""
         chance = random.Random(76)
         many = 0
-        for program in programs(77, 100):
+        for program in mixed_programs(77, 100):
             if check(program):
                 paper = make_paper(program)
                 for _ in range(10):
@@ -128,7 +115,7 @@ class Changed(unittest.TestCase):
         self.assertGreater(many, 300)
 
     def test_papers_of_other_programs(self):
-        found = programs(78, 30)
+        found = mixed_programs(78, 30)
         many = 0
         for one in found:
             for other in found:

@@ -3,36 +3,21 @@
 import random
 import unittest
 
-import livemaker
-import makers
 import oracle
 import searcher
+from livemaker import mixed_programs
 
 from loancheck.check import check, drops, region
 from loancheck.facts import facts
-from loancheck.rules import rule_fault
 from loancheck.runs import replay
 from loancheck.shortest import shortest
 from loancheck.summaries import outcomes
-
-MAKERS = (makers.small_program, makers.flow_program, livemaker.live_program, livemaker.live_program)
-
-
-def programs(seed, many):
-    """Many programs that keep the rules, always the same ones."""
-    chance = random.Random(seed)
-    found = []
-    while len(found) < many:
-        program = chance.choice(MAKERS)(chance)
-        if rule_fault(program) is None:
-            found.append(program)
-    return found
 
 
 class Search(unittest.TestCase):
     def test_facts(self):
         seen = {"never": 0, "both": 0, "loans": 0, "later": 0}
-        for program in programs(61, 150):
+        for program in mixed_programs(61, 150):
             for number, told in enumerate(searcher.searchers(program)):
                 rows = facts(program, number)
                 self.assertEqual(rows, told.facts(), program)
@@ -45,7 +30,7 @@ class Search(unittest.TestCase):
 
     def test_problems(self):
         seen = {"none": 0, "no value": 0, "conflict": 0}
-        for program in programs(62, 300):
+        for program in mixed_programs(62, 300):
             expected = [problem for told in searcher.searchers(program) for problem in told.check()]
             found = check(program)
             self.assertEqual(found, expected, program)
@@ -57,7 +42,7 @@ class Search(unittest.TestCase):
 
     def test_regions(self):
         many = 0
-        for program in programs(63, 150):
+        for program in mixed_programs(63, 150):
             for number, told in enumerate(searcher.searchers(program)):
                 for node, (operation, _) in enumerate(told.nodes):
                     if operation[0] == "borrow":
@@ -68,7 +53,7 @@ class Search(unittest.TestCase):
 
     def test_drops(self):
         seen = {"always": 0, "never": 0, "sometimes": 0, "unreachable": 0}
-        for program in programs(64, 300):
+        for program in mixed_programs(64, 300):
             for number, told in enumerate(searcher.searchers(program)):
                 found = drops(program, number)
                 self.assertEqual(found, told.drops(), program)
@@ -78,7 +63,7 @@ class Search(unittest.TestCase):
 
     def test_shortest(self):
         seen = {"no value": 0, "conflict": 0, "long": 0, "with outcomes": 0}
-        for program in programs(65, 200):
+        for program in mixed_programs(65, 200):
             searchers = {told.name: told for told in searcher.searchers(program)}
             for problem in check(program):
                 run = shortest(program, problem)
@@ -94,7 +79,7 @@ class Runs(unittest.TestCase):
 
     def test_what_is_told_is_what_runs_commit(self):
         seen = {"no value": 0, "conflict": 0}
-        for program in programs(66, 150):
+        for program in mixed_programs(66, 150):
             found = check(program)
             known = outcomes(program)
             names = [head[0] for head in program]
@@ -124,7 +109,7 @@ class Runs(unittest.TestCase):
 
     def test_no_run_with_fewer_steps_and_none_ahead_commits_the_problem(self):
         many = 0
-        for program in programs(68, 200):
+        for program in mixed_programs(68, 200):
             known = outcomes(program)
             for problem in check(program):
                 number = [head[0] for head in program].index(problem[0])

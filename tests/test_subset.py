@@ -43,7 +43,10 @@ class Subset(unittest.TestCase):
 
     def test_the_package_has_its_files(self):
         names = {path.name for path in FILES}
-        landed = "errors reading writing rules graphs states runs summaries facts check shortest papers".split()
+        landed = (
+            "errors reading writing rules graphs states runs summaries facts check shortest papers cells machine"
+            " workspace journal"
+        ).split()
         self.assertTrue({"__init__.py"} | {name + ".py" for name in landed} <= names)
 
     def test_sizes(self):
@@ -117,6 +120,18 @@ class Subset(unittest.TestCase):
             # A shell, or a doctest, makes a builtin of "_", which is none.
             if word != "_" and not word.startswith("__"):
                 self.assertNotIn(word, known, (name, node.lineno))
+
+    def test_no_name_of_an_import_or_a_class_is_given_another_meaning(self):
+        for name, tree in self.trees.items():
+            known = {node.name for node in tree.body if isinstance(node, ast.ClassDef)}
+            for node in tree.body:
+                if isinstance(node, ast.ImportFrom):
+                    known |= {alias.name for alias in node.names}
+            for node in ast.walk(tree):
+                if isinstance(node, ast.arg):
+                    self.assertNotIn(node.arg, known, (name, node.lineno))
+                if isinstance(node, ast.Name) and isinstance(node.ctx, ast.Store):
+                    self.assertNotIn(node.id, known, (name, node.lineno))
 
     def test_attributes_and_methods_have_names_of_their_own(self):
         stored = {node.attr for name, node in self.nodes(ast.Attribute) if isinstance(node.ctx, ast.Store)}
