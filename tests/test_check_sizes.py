@@ -48,7 +48,7 @@ class Sizes(unittest.TestCase):
 
     def test_the_programs_are_great_ones(self):
         program = parse_program(GREAT)
-        self.assertGreaterEqual(len(graph(program, 0)), 55)
+        self.assertEqual(len(graph(program, 0)), 60)
         self.assertEqual(len(variables(program, 0)), 8)
         self.assertEqual(outcomes(program), {"f": outcomes(program)["f"], "pick": (0, 1, 2, "none"), "turn": (0, 1, 2)})
         self.assertGreater(len(check(program)), 15)

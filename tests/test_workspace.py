@@ -273,6 +273,26 @@ class Rules(Spaces):
         self.refuse_remove("g", "unknown function g")
         self.put("fn g(a: own) -> mut { let r = mut a; return r; }")
 
+    def test_in_what_a_caller_does_with_the_result(self):
+        result = "fn g() -> ref { let x = new; let r = ref x; return r; }"
+        for body, reason in (
+            ("let b = g(); drop b;", "drop of reference b"),
+            ("let b = g(); let r = mut b;", "reference to shared b"),
+            ("let b = new; b = g();", "wrong kind of b"),
+            ("let b = g(); f(b);", "wrong kind of argument 0"),
+            ("let b = g(); if { return b; }", "wrong kind of result"),
+            ("let b = g(); loop { b = new; break; }", "wrong kind of b"),
+        ):
+            self.setUp()
+            self.put("fn g() -> own { let x = new; return x; }", "fn f(a: own) -> own { " + body + " return a; }")
+            self.refuse_put(result, reason)
+            self.put("fn f(a: own) -> own { return a; }", result)
+
+    def test_a_caller_that_grows_too_great(self):
+        """A call of a function with a result has a node more."""
+        self.put("fn g() { }", "fn f() { " + "g(); " * 59 + "}")
+        self.refuse_put("fn g() -> own { let x = new; return x; }", "too many nodes")
+
     def test_the_first_rule_that_is_broken(self):
         self.put("fn g() { }", "fn f() { g(); }", "fn h() { g(); }")
         self.refuse_put("fn g(a: own) { read x; }", "unknown variable x")
